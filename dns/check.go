@@ -1,0 +1,57 @@
+package dns
+
+import (
+	"hearsay/api"
+	"hearsay/rule"
+)
+
+const (
+	maxTwoBytes = 1<<16 - 1
+	maxCode     = 15
+	maxLasts    = 1<<31 - 1
+	maxText     = 200
+)
+
+// check gives up by the first error that Write has of a message, but for its bytes: Fit and Read do without that one.
+func check(m api.Message) {
+	need(rule.Within(m.ID, 0, maxTwoBytes) && rule.Within(m.Code, 0, maxCode), api.ErrRange)
+	need(len(m.Records) <= api.MaxRecords, api.ErrMany)
+	checkName(m.Question.Name)
+	need(isType(m.Question.Type), api.ErrKind)
+	for _, r := range m.Records {
+		checkRecord(r)
+	}
+}
+
+func checkRecord(r api.Record) {
+	checkName(r.Name)
+	need(isType(r.Type), api.ErrKind)
+	need(rule.Within(r.Lasts, 0, maxLasts), api.ErrRange)
+	need(r == ownFields(r), api.ErrForm)
+	need(rule.Address(r.Address) && rule.Within(r.Port, 0, maxTwoBytes), api.ErrRange)
+	need(len(r.Text) <= maxText, api.ErrMany)
+	checkName(r.Target)
+}
+
+func checkName(name string) {
+	why := Check(name)
+	need(why == api.OK, why)
+}
+
+func isType(t int) bool {
+	return t == api.TypeAddress || t == api.TypeText || t == api.TypeService
+}
+
+// ownFields is the record without what its type does not name.
+func ownFields(r api.Record) api.Record {
+	own := api.Record{Name: r.Name, Type: r.Type, Lasts: r.Lasts}
+	switch r.Type {
+	case api.TypeAddress:
+		own.Address = r.Address
+	case api.TypeText:
+		own.Text = r.Text
+	case api.TypeService:
+		own.Port, own.Target = r.Port, r.Target
+	}
+	return own
+}

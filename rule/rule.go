@@ -1,0 +1,30 @@
+// Package rule says what may stand in a field, once, for all layers that ask for it.
+package rule
+
+import "hearsay/api"
+
+// MaxAddress is the greatest address: addresses have four bytes.
+const MaxAddress = 1<<32 - 1
+
+// Within: is n from low to high?
+func Within(n, low, high int) bool { return low <= n && n <= high }
+
+// Address: may n be an address?
+func Address(n int) bool { return Within(n, 0, MaxAddress) }
+
+// Label: is the text a LABEL of chapter 1?
+func Label(text string) bool {
+	if !Within(len(text), 1, api.MaxLabel) {
+		return false
+	}
+	for i := range len(text) {
+		if !labelByte(text[i]) {
+			return false
+		}
+	}
+	return true
+}
+
+func labelByte(b byte) bool {
+	return 'a' <= b && b <= 'z' || '0' <= b && b <= '9' || b == '-' || b == '_'
+}
