@@ -2,7 +2,6 @@ package member
 
 import (
 	"fmt"
-	"math/rand"
 	"slices"
 	"strings"
 	"testing"
@@ -268,16 +267,19 @@ func TestLive(t *testing.T) {
 
 // B5: in whatever order, however often, one by one or by halves: the same is known; and it never gets older.
 func TestWhoHearsTheSameKnowsTheSame(t *testing.T) {
-	draw := rand.New(rand.NewSource(1))
+	d := new(draw)
 	for range 200 {
-		rumors := someRumors(draw)
+		rumors := someRumors(d)
 		want := hearAll(t, rumors)
-		draw.Shuffle(len(rumors), func(i, j int) { rumors[i], rumors[j] = rumors[j], rumors[i] })
-		rumors = append(rumors, rumors[draw.Intn(len(rumors))])
+		for i := range rumors {
+			j := d.below(i + 1)
+			rumors[i], rumors[j] = rumors[j], rumors[i]
+		}
+		rumors = append(rumors, rumors[d.below(len(rumors))])
 		if got := hearAll(t, rumors); !slices.Equal(got, want) {
 			t.Fatalf("%v: it is %v, and was %v", rumors, got, want)
 		}
-		half := draw.Intn(len(rumors))
+		half := d.below(len(rumors))
 		for _, parts := range [][2][]api.Member{{rumors[:half], rumors[half:]}, {rumors[half:], rumors[:half]}} {
 			if got, e := Join(hearAll(t, parts[0]), hearAll(t, parts[1])); !slices.Equal(got, want) || e != api.OK {
 				t.Fatalf("%v: it is %v, %d, and was %v", rumors, got, e, want)
@@ -286,11 +288,19 @@ func TestWhoHearsTheSameKnowsTheSame(t *testing.T) {
 	}
 }
 
-func someRumors(draw *rand.Rand) []api.Member {
+// draw tells numbers that look drawn, the same each time.
+type draw uint64
+
+func (d *draw) below(n int) int {
+	*d = *d*6364136223846793005 + 1442695040888963407
+	return int((uint64(*d) >> 33) % uint64(n))
+}
+
+func someRumors(d *draw) []api.Member {
 	var l []api.Member
-	for range 1 + draw.Intn(30) {
-		name := fmt.Sprint("m", draw.Intn(6))
-		l = append(l, api.Member{Name: name, State: 1 + draw.Intn(4), Life: 1 + draw.Intn(3), Address: draw.Intn(3), Server: draw.Intn(2) == 0})
+	for range 1 + d.below(30) {
+		name := fmt.Sprint("m", d.below(6))
+		l = append(l, api.Member{Name: name, State: 1 + d.below(4), Life: 1 + d.below(3), Address: d.below(3), Server: d.below(2) == 0})
 	}
 	return l
 }
