@@ -7,6 +7,7 @@ import (
 	"testing"
 
 	"hearsay/api"
+	"hearsay/draw"
 )
 
 func one(name string, state, life int) api.Member {
@@ -267,19 +268,19 @@ func TestLive(t *testing.T) {
 
 // B5: in whatever order, however often, one by one or by halves: the same is known; and it never gets older.
 func TestWhoHearsTheSameKnowsTheSame(t *testing.T) {
-	d := new(draw)
+	d := new(draw.Numbers)
 	for range 200 {
 		rumors := someRumors(d)
 		want := hearAll(t, rumors)
 		for i := range rumors {
-			j := d.below(i + 1)
+			j := d.Below(i + 1)
 			rumors[i], rumors[j] = rumors[j], rumors[i]
 		}
-		rumors = append(rumors, rumors[d.below(len(rumors))])
+		rumors = append(rumors, rumors[d.Below(len(rumors))])
 		if got := hearAll(t, rumors); !slices.Equal(got, want) {
 			t.Fatalf("%v: it is %v, and was %v", rumors, got, want)
 		}
-		half := d.below(len(rumors))
+		half := d.Below(len(rumors))
 		for _, parts := range [][2][]api.Member{{rumors[:half], rumors[half:]}, {rumors[half:], rumors[:half]}} {
 			if got, e := Join(hearAll(t, parts[0]), hearAll(t, parts[1])); !slices.Equal(got, want) || e != api.OK {
 				t.Fatalf("%v: it is %v, %d, and was %v", rumors, got, e, want)
@@ -288,19 +289,11 @@ func TestWhoHearsTheSameKnowsTheSame(t *testing.T) {
 	}
 }
 
-// draw tells numbers that look drawn, the same each time.
-type draw uint64
-
-func (d *draw) below(n int) int {
-	*d = *d*6364136223846793005 + 1442695040888963407
-	return int((uint64(*d) >> 33) % uint64(n))
-}
-
-func someRumors(d *draw) []api.Member {
+func someRumors(d *draw.Numbers) []api.Member {
 	var l []api.Member
-	for range 1 + d.below(30) {
-		name := fmt.Sprint("m", d.below(6))
-		l = append(l, api.Member{Name: name, State: 1 + d.below(4), Life: 1 + d.below(3), Address: d.below(3), Server: d.below(2) == 0})
+	for range 1 + d.Below(30) {
+		name := fmt.Sprint("m", d.Below(6))
+		l = append(l, api.Member{Name: name, State: 1 + d.Below(4), Life: 1 + d.Below(3), Address: d.Below(3), Server: d.Below(2) == 0})
 	}
 	return l
 }
