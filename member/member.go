@@ -6,6 +6,7 @@ import (
 	"strings"
 
 	"hearsay/api"
+	"hearsay/rising"
 	"hearsay/rule"
 )
 
@@ -19,10 +20,8 @@ func Check(l []api.Member) api.Errno {
 			return why
 		}
 	}
-	for i := 1; i < len(l); i++ {
-		if l[i-1].Name >= l[i].Name {
-			return api.ErrState
-		}
+	if !rising.Rises(l, byName) {
+		return api.ErrState
 	}
 	return api.OK
 }
@@ -38,6 +37,8 @@ func checkOne(m api.Member) api.Errno {
 	}
 	return api.OK
 }
+
+func byName(a, b api.Member) int { return strings.Compare(a.Name, b.Name) }
 
 func checkAll(pools ...[]api.Member) api.Errno {
 	for _, pool := range pools {
@@ -92,34 +93,11 @@ func join(pools ...[]api.Member) ([]api.Member, api.Errno) {
 	if why := checkAll(pools...); why != api.OK {
 		return nil, why
 	}
-	var known []api.Member
-	for _, pool := range pools {
-		for _, m := range pool {
-			known = learn(known, m)
-		}
-	}
+	known := rising.Join(byName, newer, pools...)
 	if len(known) > api.MaxMembers {
 		return nil, api.ErrMany
 	}
 	return known, api.OK
-}
-
-// learn changes the list that it is handed: it is for lists of our own alone.
-func learn(known []api.Member, m api.Member) []api.Member {
-	at, found := find(known, m.Name)
-	if !found {
-		return slices.Insert(known, at, m)
-	}
-	if newer(m, known[at]) {
-		known[at] = m
-	}
-	return known
-}
-
-// find tells where the member by a name is, or would be.
-func find(l []api.Member, name string) (int, bool) {
-	byName := func(m api.Member, name string) int { return strings.Compare(m.Name, name) }
-	return slices.BinarySearchFunc(l, name, byName)
 }
 
 // Refute that one does not live.
@@ -131,7 +109,7 @@ func Refute(l []api.Member, me string) ([]api.Member, bool, api.Errno) {
 		return nil, false, api.ErrForm
 	}
 	known := slices.Clone(l)
-	at, found := find(known, me)
+	at, found := rising.Find(known, api.Member{Name: me}, byName)
 	if !found || !isDoubted(known[at]) {
 		return known, false, api.OK
 	}

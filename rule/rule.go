@@ -25,6 +25,16 @@ func Label(text string) bool {
 	return true
 }
 
+// Labels: is each of the texts a LABEL?
+func Labels(texts ...string) bool {
+	for _, text := range texts {
+		if !Label(text) {
+			return false
+		}
+	}
+	return true
+}
+
 func labelByte(b byte) bool {
 	return 'a' <= b && b <= 'z' || '0' <= b && b <= '9' || b == '-' || b == '_'
 }

@@ -33,6 +33,19 @@ func TestLabelOfEachByte(t *testing.T) {
 	}
 }
 
+func TestLabels(t *testing.T) {
+	for _, texts := range [][]string{nil, {"a"}, {"a", "b", "a"}} {
+		if !Labels(texts...) {
+			t.Errorf("%q are labels", texts)
+		}
+	}
+	for _, texts := range [][]string{{""}, {"", "a"}, {"a", "B"}, {"a", "b.c", "d"}} {
+		if Labels(texts...) {
+			t.Errorf("%q are not all labels", texts)
+		}
+	}
+}
+
 func TestWithin(t *testing.T) {
 	for n, want := range map[int]bool{-1: false, 1: false, 2: true, 3: true, 4: true, 5: false} {
 		if Within(n, 2, 4) != want {
