@@ -17,7 +17,7 @@ func check(m api.Message) {
 	need(rule.Within(m.ID, 0, maxTwoBytes) && rule.Within(m.Code, 0, maxCode), api.ErrRange)
 	need(len(m.Records) <= api.MaxRecords, api.ErrMany)
 	checkName(m.Question.Name)
-	need(isType(m.Question.Type), api.ErrKind)
+	need(rule.Type(m.Question.Type), api.ErrKind)
 	for _, r := range m.Records {
 		checkRecord(r)
 	}
@@ -25,7 +25,7 @@ func check(m api.Message) {
 
 func checkRecord(r api.Record) {
 	checkName(r.Name)
-	need(isType(r.Type), api.ErrKind)
+	need(rule.Type(r.Type), api.ErrKind)
 	need(rule.Within(r.Lasts, 0, maxLasts), api.ErrRange)
 	need(r == ownFields(r), api.ErrForm)
 	need(rule.Address(r.Address) && rule.Within(r.Port, 0, maxTwoBytes), api.ErrRange)
@@ -36,10 +36,6 @@ func checkRecord(r api.Record) {
 func checkName(name string) {
 	why := Check(name)
 	need(why == api.OK, why)
-}
-
-func isType(t int) bool {
-	return t == api.TypeAddress || t == api.TypeText || t == api.TypeService
 }
 
 // ownFields is the record without what its type does not name.

@@ -35,6 +35,21 @@ func Labels(texts ...string) bool {
 	return true
 }
 
+// LabelsOrEmpty: is each of the texts a LABEL, or empty?
+func LabelsOrEmpty(texts ...string) bool {
+	for _, text := range texts {
+		if text != "" && !Label(text) {
+			return false
+		}
+	}
+	return true
+}
+
+// Type: is t one of the types of questions and records?
+func Type(t int) bool {
+	return t == api.TypeAddress || t == api.TypeText || t == api.TypeService
+}
+
 func labelByte(b byte) bool {
 	return 'a' <= b && b <= 'z' || '0' <= b && b <= '9' || b == '-' || b == '_'
 }

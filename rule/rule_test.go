@@ -46,6 +46,27 @@ func TestLabels(t *testing.T) {
 	}
 }
 
+func TestLabelsOrEmpty(t *testing.T) {
+	for _, texts := range [][]string{nil, {""}, {"a"}, {"", "a", ""}} {
+		if !LabelsOrEmpty(texts...) {
+			t.Errorf("%q are labels, or empty", texts)
+		}
+	}
+	for _, texts := range [][]string{{"A"}, {"", "."}, {"a", "", "b.c", "d"}} {
+		if LabelsOrEmpty(texts...) {
+			t.Errorf("%q are not all labels, or empty", texts)
+		}
+	}
+}
+
+func TestType(t *testing.T) {
+	for n := -70; n < 70; n++ {
+		if want := n == 1 || n == 16 || n == 33; Type(n) != want {
+			t.Errorf("%d as a type: it must be %v", n, want)
+		}
+	}
+}
+
 func TestWithin(t *testing.T) {
 	for n, want := range map[int]bool{-1: false, 1: false, 2: true, 3: true, 4: true, 5: false} {
 		if Within(n, 2, 4) != want {
