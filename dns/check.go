@@ -2,6 +2,7 @@ package dns
 
 import (
 	"hearsay/api"
+	"hearsay/fault"
 	"hearsay/rule"
 )
 
@@ -14,10 +15,10 @@ const (
 
 // check gives up by the first error that Write has of a message, but for its bytes: Fit and Read do without that one.
 func check(m api.Message) {
-	need(rule.Within(m.ID, 0, maxTwoBytes) && rule.Within(m.Code, 0, maxCode), api.ErrRange)
-	need(len(m.Records) <= api.MaxRecords, api.ErrMany)
+	fault.Need(rule.Within(m.ID, 0, maxTwoBytes) && rule.Within(m.Code, 0, maxCode), api.ErrRange)
+	fault.Need(len(m.Records) <= api.MaxRecords, api.ErrMany)
 	checkName(m.Question.Name)
-	need(rule.Type(m.Question.Type), api.ErrKind)
+	fault.Need(rule.Type(m.Question.Type), api.ErrKind)
 	for _, r := range m.Records {
 		checkRecord(r)
 	}
@@ -25,17 +26,17 @@ func check(m api.Message) {
 
 func checkRecord(r api.Record) {
 	checkName(r.Name)
-	need(rule.Type(r.Type), api.ErrKind)
-	need(rule.Within(r.Lasts, 0, maxLasts), api.ErrRange)
-	need(r == ownFields(r), api.ErrForm)
-	need(rule.Address(r.Address) && rule.Within(r.Port, 0, maxTwoBytes), api.ErrRange)
-	need(len(r.Text) <= maxText, api.ErrMany)
+	fault.Need(rule.Type(r.Type), api.ErrKind)
+	fault.Need(rule.Within(r.Lasts, 0, maxLasts), api.ErrRange)
+	fault.Need(r == ownFields(r), api.ErrForm)
+	fault.Need(rule.Address(r.Address) && rule.Within(r.Port, 0, maxTwoBytes), api.ErrRange)
+	fault.Need(len(r.Text) <= maxText, api.ErrMany)
 	checkName(r.Target)
 }
 
 func checkName(name string) {
 	why := Check(name)
-	need(why == api.OK, why)
+	fault.Need(why == api.OK, why)
 }
 
 // ownFields is the record without what its type does not name.

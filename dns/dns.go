@@ -5,6 +5,7 @@ import (
 	"strings"
 
 	"hearsay/api"
+	"hearsay/fault"
 	"hearsay/rule"
 )
 
@@ -36,7 +37,7 @@ func hasLabel(name string, is func(label string) bool) bool {
 
 // Write a message.
 func Write(m api.Message) (string, api.Errno) {
-	if why := attempt(func() { check(m) }); why != api.OK {
+	if why := fault.Attempt(func() { check(m) }); why != api.OK {
 		return "", why
 	}
 	s := written(m)
@@ -51,7 +52,7 @@ func Fit(m api.Message, size int) (string, api.Errno) {
 	if !rule.Within(size, headSize, api.MaxMessage) {
 		return "", api.ErrRange
 	}
-	if why := attempt(func() { check(m) }); why != api.OK {
+	if why := fault.Attempt(func() { check(m) }); why != api.OK {
 		return "", why
 	}
 	s := written(m)
@@ -76,7 +77,7 @@ func Read(s string) (api.Message, api.Errno) {
 		m = r.message()
 		check(m)
 	}
-	if attempt(read) != api.OK { // whatever check said: to who reads, it is no message
+	if fault.Attempt(read) != api.OK { // whatever check said: to who reads, it is no message
 		return api.Message{}, api.ErrForm
 	}
 	return m, api.OK

@@ -6,6 +6,7 @@ import (
 	"testing"
 
 	"hearsay/api"
+	"hearsay/fault"
 )
 
 const (
@@ -292,7 +293,7 @@ func readsWell(t *testing.T, s string) {
 func givesUpWell(t *testing.T, s string) {
 	defer func() {
 		told := recover()
-		if _, ok := told.(fault); told != nil && !ok {
+		if _, ok := told.(fault.Fault); told != nil && !ok {
 			t.Errorf("%q: it panics by %v", s, told)
 		}
 	}()
@@ -315,18 +316,5 @@ func TestReadEachByteChanged(t *testing.T) {
 			readsWell(t, string(s))
 		}
 		s[i] = was
-	}
-}
-
-// P1: a panic that is none of the package's own does not come out either.
-func TestAttempt(t *testing.T) {
-	for want, work := range map[api.Errno]func(){
-		api.OK:      func() {},
-		api.ErrKind: func() { need(false, api.ErrKind) },
-		api.ErrForm: func() { panic("something else") },
-	} {
-		if e := attempt(work); e != want {
-			t.Errorf("it is %d, and must be %d", e, want)
-		}
 	}
 }

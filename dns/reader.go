@@ -4,6 +4,7 @@ import (
 	"strings"
 
 	"hearsay/api"
+	"hearsay/fault"
 	"hearsay/rule"
 )
 
@@ -21,7 +22,7 @@ func (r *reader) message() api.Message {
 	m.ID = r.number(2)
 	bits := r.number(1)
 	m.Answer, m.Cut = bits&answerBit != 0, bits&cutBit != 0
-	need(bits == flags(m), api.ErrForm)
+	fault.Need(bits == flags(m), api.ErrForm)
 	m.Code = r.number(1)
 	r.expect(2, 1)
 	records := r.number(2)
@@ -33,7 +34,7 @@ func (r *reader) message() api.Message {
 	for range records {
 		m.Records = append(m.Records, r.record())
 	}
-	need(r.at == len(r.text), api.ErrForm)
+	fault.Need(r.at == len(r.text), api.ErrForm)
 	return m
 }
 
@@ -46,7 +47,7 @@ func (r *reader) record() api.Record {
 	size := r.number(2)
 	began := r.at
 	r.data(&x)
-	need(r.at-began == size, api.ErrForm)
+	fault.Need(r.at-began == size, api.ErrForm)
 	return x
 }
 
@@ -75,11 +76,11 @@ func (r *reader) name() string {
 			return strings.Join(labels, ".")
 		case first >= elsewhere:
 			rest := part.number(2) - elsewhere<<8
-			need(rest < began, api.ErrForm)
+			fault.Need(rest < began, api.ErrForm)
 			part, began = &reader{text: r.text, at: rest}, rest
 		default:
 			label := small(part.counted())
-			need(rule.Label(label) && len(labels) < api.MaxLabels, api.ErrForm) // here, for once they are joined, a dot in one would not show
+			fault.Need(rule.Label(label) && len(labels) < api.MaxLabels, api.ErrForm) // here, for once they are joined, a dot in one would not show
 			labels = append(labels, label)
 		}
 	}
@@ -101,7 +102,7 @@ func (r *reader) counted() string {
 }
 
 func (r *reader) expect(bytes, n int) {
-	need(r.number(bytes) == n, api.ErrForm)
+	fault.Need(r.number(bytes) == n, api.ErrForm)
 }
 
 func (r *reader) number(bytes int) int {
@@ -113,12 +114,12 @@ func (r *reader) number(bytes int) int {
 }
 
 func (r *reader) peek() byte {
-	need(r.at < len(r.text), api.ErrForm)
+	fault.Need(r.at < len(r.text), api.ErrForm)
 	return r.text[r.at]
 }
 
 func (r *reader) take(bytes int) string {
-	need(bytes <= len(r.text)-r.at, api.ErrForm)
+	fault.Need(bytes <= len(r.text)-r.at, api.ErrForm)
 	r.at += bytes
 	return r.text[r.at-bytes : r.at]
 }
