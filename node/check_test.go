@@ -8,6 +8,7 @@ import (
 	"testing"
 
 	"hearsay/api"
+	"hearsay/fresh"
 )
 
 const maxAddress = 1<<32 - 1
@@ -360,7 +361,7 @@ func TestPacketsAreOnlyRead(t *testing.T) {
 			t.Errorf("it is %d, and changed: %v", e, p)
 		}
 	}
-	was := copied(n)
+	was := fresh.Node(n)
 	spoilPacket(p)
 	if !same(n, was) {
 		t.Errorf("it is %v, and was %v", n, was)
@@ -372,7 +373,7 @@ func TestPacketsAreNew(t *testing.T) {
 	n, room := roomy()
 	_, was := roomy()
 	next, told, _ := Tell(n)
-	nextWas := copied(next)
+	nextWas := fresh.Node(next)
 	spoilPacket(told)
 	whole, _ := Whole(n)
 	spoilPacket(whole)

@@ -6,6 +6,7 @@ import (
 	"testing"
 
 	"hearsay/api"
+	"hearsay/fresh"
 	"hearsay/packet"
 	"hearsay/place"
 )
@@ -90,7 +91,7 @@ func TestHearErrors(t *testing.T) {
 		fails(t, i, got, e, x.why)
 		x.mend()
 	}
-	want := copied(n)
+	want := fresh.Node(n)
 	want.Services, want.Gateways = append(want.Services, p.Services...), append(want.Gateways, p.Gateways...)
 	got, e := Hear(n, p)
 	becomes(t, "there is room", got, e, want)
@@ -234,7 +235,7 @@ func TestOpen(t *testing.T) {
 		becomes(t, address, n, e, want)
 	}
 	elsewhere := turned(func(n *api.Node) { n.Centre = "i" })
-	want := copied(elsewhere)
+	want := fresh.Node(elsewhere)
 	want.Gateways = slices.Insert(want.Gateways, 1, api.Gateway{Centre: "i", Address: 5, Version: 1})
 	n, e := Open(elsewhere, 5)
 	becomes(t, "elsewhere", n, e, want)

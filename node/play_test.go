@@ -9,6 +9,7 @@ import (
 	"hearsay/catalog"
 	"hearsay/centre"
 	"hearsay/draw"
+	"hearsay/fresh"
 	"hearsay/member"
 	"hearsay/packet"
 )
@@ -78,7 +79,7 @@ func TestNothingGetsOlder(t *testing.T) {
 		done := 0
 		for range 300 {
 			i, k := d.Below(5), d.Below(5)
-			was := copied(nodes[i])
+			was := fresh.Node(nodes[i])
 			next, e := something(d, nodes[i], nodes[k])
 			if e != api.OK {
 				fails(t, was, next, e, e)

@@ -7,6 +7,7 @@ import (
 	"testing"
 
 	"hearsay/api"
+	"hearsay/fresh"
 	"hearsay/rumor"
 )
 
@@ -183,7 +184,7 @@ func TestTellSomeAtMost(t *testing.T) {
 	n := living(20, 0, 3, 0, 1, 0, 0, 1, 2, 0)
 	n.Rumors[1], n.Rumors[7] = n.Rumors[7], n.Rumors[1]
 	n.Services, n.Gateways, n.Place, n.Where = base().Services, base().Gateways, base().Place, base().Where
-	want := copied(n)
+	want := fresh.Node(n)
 	for _, at := range []int{1, 3, 4, 5, 7} {
 		want.Rumors[at].Told++
 	}

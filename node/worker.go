@@ -4,6 +4,7 @@ import (
 	"slices"
 
 	"hearsay/api"
+	"hearsay/fresh"
 )
 
 // worker works on a node: what that has is its own.
@@ -16,20 +17,11 @@ func work(n api.Node, change func(w *worker) api.Errno) (api.Node, api.Errno) {
 	if why := Check(n); why != api.OK {
 		return api.Node{}, why
 	}
-	w := &worker{copied(n)}
+	w := &worker{fresh.Node(n)}
 	if why := change(w); why != api.OK {
 		return api.Node{}, why
 	}
 	return w.Node, api.OK
-}
-
-func copied(n api.Node) api.Node {
-	n.Members = slices.Clone(n.Members)
-	n.Rumors = slices.Clone(n.Rumors)
-	n.Services = slices.Clone(n.Services)
-	n.Gateways = slices.Clone(n.Gateways)
-	n.Where = slices.Clone(n.Where)
-	return n
 }
 
 func (w *worker) member(name string) (api.Member, bool) {
